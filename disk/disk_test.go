@@ -397,7 +397,7 @@ func all(steps []step, many int, ahead []step, f func([]step)) {
 	}
 }
 
-// 5.1: each row of up to five calls, on disks that are small enough to be full.
+// 5.1: each row of four calls, and of five on one of the disks, which are small enough to be full.
 func TestAllShortRows(t *testing.T) {
 	steps := []step{{'w', "", 0}, {'w', "a", 0}, {'w', "bc", 0}, {'r', "", 0}, {'r', "xyz", 0}, {'s', "", 0}, {'c', "", 0}, {'c', "", 1}, {'c', "", 2}, {'c', "", 3}}
 	for size := range 6 {
