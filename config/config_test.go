@@ -10,6 +10,7 @@ import (
 
 	"tithebarn/api"
 	"tithebarn/config"
+	"tithebarn/samples"
 )
 
 const (
@@ -124,32 +125,11 @@ func checkLeaves(t *testing.T, c api.Config) {
 	if got := config.Leaves(c); !slices.Equal(got, want) {
 		t.Errorf("Leaves: %d, want %d: %+v", got, want, c.Nodes)
 	}
-	around := []int{math.MinInt, math.MinInt + 1, -12, -2, math.MaxInt - 1, math.MaxInt, 1 << 32, -1 << 32}
-	for n := -1; n <= len(c.Nodes)+1; n++ {
-		around = append(around, n)
-	}
-	for _, n := range around {
+	for _, n := range samples.Around(c) {
 		if got := config.Leaf(c, n); got != slices.Contains(want, n) {
 			t.Errorf("Leaf(%d): %t: %+v", n, got, c.Nodes)
 		}
 	}
-}
-
-// eachRow calls visit with every row of so many numbers from least to most.
-func eachRow(size, least, most int, visit func(row []int)) {
-	row := make([]int, size)
-	var fill func(at int)
-	fill = func(at int) {
-		if at == size {
-			visit(row)
-			return
-		}
-		for n := least; n <= most; n++ {
-			row[at] = n
-			fill(at + 1)
-		}
-	}
-	fill(0)
 }
 
 // 9.1: the chapter's own example, and ordinary configurations of each size.
@@ -240,7 +220,7 @@ func isParent(c api.Config, at *int) bool {
 // 9.1: of all rows of Parents those may be in which the first is -1, and each other one from 0 to below its node.
 func TestCheckParents(t *testing.T) {
 	for size := 1; size <= 5; size++ {
-		eachRow(size, -2, size, func(row []int) {
+		samples.EachRow(size, -2, size, func(row []int) {
 			c := tree(1, row...)
 			want := api.OK
 			for i, p := range row {
@@ -322,7 +302,7 @@ func TestLeaves(t *testing.T) {
 	checkLeaves(t, api.Config{})
 	checkLeaves(t, api.Config{Nodes: []api.Node{}})
 	for size := 1; size <= 5; size++ {
-		eachRow(size, -2, size, func(row []int) { checkLeaves(t, tree(0, row...)) })
+		samples.EachRow(size, -2, size, func(row []int) { checkLeaves(t, tree(0, row...)) })
 	}
 	for _, row := range [][]int{
 		{0}, {1}, {-1, 1}, {math.MinInt, math.MaxInt, 1 << 32, -1 << 32, 3}, {1, 2, 3, 4, 0}, {-1, -1, -1}, {5, 5, 5, 5, 5, 5},
@@ -369,7 +349,7 @@ func cut(x *big.Int) *big.Int {
 func TestTotal(t *testing.T) {
 	edges := []int{math.MinInt, -most - 1, -most, -5, 0, 1, amount, most - 3, most, math.MaxInt}
 	for size := 0; size <= 3; size++ {
-		eachRow(size, 0, len(edges)-1, func(row []int) {
+		samples.EachRow(size, 0, len(edges)-1, func(row []int) {
 			var c api.Config
 			var want api.Vec
 			for i, at := range row {

@@ -10,6 +10,7 @@ import (
 	"tithebarn/api"
 	"tithebarn/config"
 	"tithebarn/qtree"
+	"tithebarn/samples"
 )
 
 const most = 1 << 40 // how far from 0 a sum counts
@@ -23,57 +24,14 @@ func tree(parents ...int) api.Config {
 	return c
 }
 
-// mayBe are rows of Parents that chapter 9's Check takes.
-func mayBe() [][]int {
-	return [][]int{
-		{-1}, {-1, 0}, {-1, 0, 0}, {-1, 0, 1}, {-1, 0, 0, 1, 1}, {-1, 0, 1, 0, 1, 0, 2}, {-1, 0, 0, 1, 1, 2, 2, 3, 3, 4, 4, 5},
-		{-1, 0, 0, 0, 0, 0, 0, 0, 0, 0, 0, 0}, {-1, 0, 1, 2, 3, 4, 5, 6, 7, 8, 9, 10}, {-1, 0, 0, 2, 2, 4, 4, 6, 6, 8, 8, 10},
-	}
-}
-
-// mayNotBe are rows of Parents that it does not take: roots that have a Parent, more roots than one, Parents that are the node itself, that come behind it, that are not there, rings, more nodes than may be.
-func mayNotBe() [][]int {
-	return [][]int{
-		{}, {0}, {1}, {-2}, {math.MinInt}, {math.MaxInt}, {-1, -1}, {-1, -1, 0, 1, 0, 1}, {-1, 1}, {-1, 2}, {-1, 0, 2}, {1, 0}, {1, 2, 0}, {2, 0, 1},
-		{-1, 0, 5, 2, 3, 4}, {-1, 0, 3, 0, 2, 2}, {5, 5, 5, 5, 5, 5}, {math.MaxInt, 0, math.MinInt, 2, 1 << 32, 1<<32 + 1, -1 << 32, 4, 5, 6},
-		{-1, 0, 0, 0, 0, 0, 0, 0, 0, 0, 0, 0, 0, 12, 13, 13, 13, 20, 16, 18},
-	}
-}
-
-// eachTree calls visit with all configurations that are held: those above, and all rows of up to five Parents from -2 to past the last node.
+// eachTree calls visit with all configurations that are held: those of the samples, and all rows of up to five Parents from -2 to past the last node.
 func eachTree(visit func(c api.Config)) {
-	for _, parents := range append(mayBe(), mayNotBe()...) {
+	for _, parents := range append(samples.MayBe(), samples.MayNotBe()...) {
 		visit(tree(parents...))
 	}
 	for size := 1; size <= 5; size++ {
-		eachRow(size, -2, size, func(row []int) { visit(tree(row...)) })
+		samples.EachRow(size, -2, size, func(row []int) { visit(tree(row...)) })
 	}
-}
-
-// eachRow calls visit with every row of so many numbers from least to most.
-func eachRow(size, least, most int, visit func(row []int)) {
-	row := make([]int, size)
-	var fill func(at int)
-	fill = func(at int) {
-		if at == size {
-			visit(row)
-			return
-		}
-		for n := least; n <= most; n++ {
-			row[at] = n
-			fill(at + 1)
-		}
-	}
-	fill(0)
-}
-
-// around are all nodes of c, and numbers that are none.
-func around(c api.Config) []int {
-	l := []int{math.MinInt, math.MinInt + 1, -1 << 32, -12, -2, 1 << 32, 1<<32 + 1, math.MaxInt - 1, math.MaxInt}
-	for n := -1; n <= len(c.Nodes)+1; n++ {
-		l = append(l, n)
-	}
-	return l
 }
 
 // wantPath is what the chapter says of Path: the Parent's, and n behind it.
@@ -177,7 +135,7 @@ func TestExamples(t *testing.T) {
 // 10.1: Path and Below of any configuration, of nodes and of numbers that are none.
 func TestPathAndBelow(t *testing.T) {
 	eachTree(func(c api.Config) {
-		for _, n := range around(c) {
+		for _, n := range samples.Around(c) {
 			checkRow(t, "Path", c, n, qtree.Path(c, n), wantPath(c, n))
 			checkRow(t, "Below", c, n, qtree.Below(c, n), wantBelow(c, n))
 		}
@@ -187,8 +145,8 @@ func TestPathAndBelow(t *testing.T) {
 // 10.1: Common of any configuration, of all pairs of nodes and of numbers that are none.
 func TestCommon(t *testing.T) {
 	eachTree(func(c api.Config) {
-		for _, a := range around(c) {
-			for _, b := range around(c) {
+		for _, a := range samples.Around(c) {
+			for _, b := range samples.Around(c) {
 				checkCommon(t, c, a, b, wantCommon(c, a, b))
 			}
 		}
@@ -227,9 +185,9 @@ func TestSum(t *testing.T) {
 	for i := range l {
 		l[i] = api.Vec{1 << i, 3 << i, i}
 	}
-	for _, parents := range append(mayBe(), mayNotBe()...) {
+	for _, parents := range append(samples.MayBe(), samples.MayNotBe()...) {
 		c := tree(parents...)
-		for _, n := range around(c) {
+		for _, n := range samples.Around(c) {
 			checkSum(t, c, n, nil, api.Vec{})
 			checkSum(t, c, n, []api.Vec{}, api.Vec{})
 			for size := range len(l) + 1 {
@@ -256,7 +214,7 @@ func TestSumCut(t *testing.T) {
 	}
 	checkSum(t, c, 3, []api.Vec{{}, {}, {}, {math.MaxInt, math.MinInt, most + 1}}, api.Vec{most, -most, most})
 	edges := []int{math.MinInt, -most - 1, -most, -5, 0, 1, most - 3, most, math.MaxInt}
-	eachRow(3, 0, len(edges)-1, func(row []int) {
+	samples.EachRow(3, 0, len(edges)-1, func(row []int) {
 		l := make([]api.Vec, 5)
 		for i, at := range row {
 			l[2+i] = api.Vec{edges[at], edges[len(edges)-1-at], i}

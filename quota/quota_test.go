@@ -1,7 +1,6 @@
 package quota_test
 
 import (
-	"math"
 	"reflect"
 	"slices"
 	"testing"
@@ -9,33 +8,17 @@ import (
 	"tithebarn/api"
 	"tithebarn/config"
 	"tithebarn/quota"
+	"tithebarn/samples"
 )
 
 const (
-	amount = 1 << 20 // MaxAmount
-	most   = 1 << 40 // how far from 0 a sum counts
-	least  = math.MinInt
-	top    = math.MaxInt
+	amount = samples.Amount
+	most   = samples.Most
+	least  = samples.Least
+	top    = samples.Top
 )
 
-// same is n of each resource.
-func same(n int) api.Vec { return api.Vec{n, n, n} }
-
-// only is n of resource r, and nothing of the others.
-func only(r, n int) api.Vec {
-	var v api.Vec
-	v[r] = n
-	return v
-}
-
-// tree is a configuration with those Parents, whose nodes have no quotas.
-func tree(parents ...int) api.Config {
-	c := api.Config{Hosts: []api.Host{{Cap: same(1)}}, Half: 10}
-	for _, p := range parents {
-		c.Nodes = append(c.Nodes, api.Node{Parent: p, Weight: 1})
-	}
-	return c
-}
+var same, only, tree, tenant, ahead, cut = samples.Same, samples.Only, samples.Tree, samples.Tenant, samples.Ahead, samples.Cut
 
 // setQuota is c, but that node n has so much.
 func setQuota(c api.Config, n int, nominal, borrow, lend api.Vec) api.Config {
@@ -50,50 +33,15 @@ func two(first, second int) api.Config {
 	return setQuota(c, 2, same(4), same(4), same(second))
 }
 
-// parents are rows of Parents that chapter 9's Check takes.
-func parents() [][]int {
-	return [][]int{
-		{-1}, {-1, 0}, {-1, 0, 0}, {-1, 0, 1}, {-1, 0, 0, 1, 1}, {-1, 0, 1, 0, 1, 0, 2}, {-1, 0, 0, 1, 1, 2, 2, 3, 3, 4, 4, 5},
-		{-1, 0, 0, 0, 0, 0, 0, 0, 0, 0, 0, 0}, {-1, 0, 1, 2, 3, 4, 5, 6, 7, 8, 9, 10}, {-1, 0, 0, 2, 2, 4, 4, 6, 6, 8, 8, 10},
-	}
-}
-
-// numbers is a row of numbers that look mixed, the same ones each time.
-type numbers struct{ last uint64 }
-
-// upTo is the next number, from 0 to n.
-func (l *numbers) upTo(n int) int {
-	l.last = l.last*6364136223846793005 + 1442695040888963407
-	return int((l.last >> 33) % uint64(n+1))
-}
-
-// vec is the next amount, each number from low to high.
-func (l *numbers) vec(low, high int) api.Vec {
-	var v api.Vec
-	for r := range v {
-		v[r] = low + l.upTo(high-low)
-	}
-	return v
-}
-
-// vecs are the next so many amounts.
-func (l *numbers) vecs(size, low, high int) []api.Vec {
-	var all []api.Vec
-	for range size {
-		all = append(all, l.vec(low, high))
-	}
-	return all
-}
-
-// quotas is c, each tenant with the next quota of numbers up to high.
-func (l *numbers) quotas(c api.Config, high int) api.Config {
+// quotas is c, each tenant with the next quota of l, of numbers up to high.
+func quotas(l *samples.Numbers, c api.Config, high int) api.Config {
 	for n := range c.Nodes {
 		if tenant(c, n) {
-			nominal, lend := l.vec(0, high), api.Vec{}
+			nominal, lend := l.Vec(0, high), api.Vec{}
 			for r := range lend {
-				lend[r] = l.upTo(nominal[r])
+				lend[r] = l.UpTo(nominal[r])
 			}
-			c = setQuota(c, n, nominal, l.vec(0, high), lend)
+			c = setQuota(c, n, nominal, l.Vec(0, high), lend)
 		}
 	}
 	return c
@@ -108,24 +56,6 @@ func checked(t *testing.T, c api.Config) api.Config {
 	return c
 }
 
-// tenant tells whether n is a node of c, and none has it as its Parent.
-func tenant(c api.Config, n int) bool {
-	for _, m := range c.Nodes {
-		if m.Parent == n {
-			return false
-		}
-	}
-	return n >= 0 && n < len(c.Nodes)
-}
-
-// ahead are the nodes from n up to the root, n the first.
-func ahead(c api.Config, n int) []int {
-	if n < 0 || n >= len(c.Nodes) {
-		return nil
-	}
-	return append([]int{n}, ahead(c, c.Nodes[n].Parent)...)
-}
-
 // below are the tenants that n is ahead of, or is, rising.
 func below(c api.Config, n int) []int {
 	var l []int
@@ -136,9 +66,6 @@ func below(c api.Config, n int) []int {
 	}
 	return l
 }
-
-// cut is n, at least -2^40, at most 2^40.
-func cut(n int) int { return min(max(n, -most), most) }
 
 // total is all of l together, cut at each step.
 func total(l ...int) int {
@@ -275,15 +202,6 @@ func checkAll(t *testing.T, c api.Config, used []api.Vec, n int, need api.Vec) b
 	return may
 }
 
-// around are all nodes of c, and numbers that are none.
-func around(c api.Config) []int {
-	l := []int{least, least + 1, -1 << 32, -2, -1, 1 << 32, 1<<32 + 1, top - 1, top}
-	for n := range len(c.Nodes) + 2 {
-		l = append(l, n)
-	}
-	return l
-}
-
 // 11.1: the chapter's own example, in each resource.
 func TestExamples(t *testing.T) {
 	c := checked(t, two(4, 1))
@@ -407,11 +325,11 @@ func TestKeptEachAlone(t *testing.T) {
 
 // 11.1: what is no tenant may nothing, borrows nothing, and is within nothing.
 func TestNoTenant(t *testing.T) {
-	for _, row := range parents() {
-		l := numbers{}
-		c := checked(t, l.quotas(tree(row...), 9))
-		used := l.vecs(len(row)+3, 100, 200)
-		for _, n := range around(c) {
+	for _, row := range samples.MayBe() {
+		l := samples.Numbers{}
+		c := checked(t, quotas(&l, tree(row...), 9))
+		used := l.Vecs(len(row)+3, 100, 200)
+		for _, n := range samples.Around(c) {
 			if !tenant(c, n) {
 				for _, need := range []api.Vec{{}, same(1), same(-1), same(-999), same(least)} {
 					checkMay(t, c, nil, n, need, false)
@@ -479,18 +397,18 @@ func TestSmallNumbers(t *testing.T) {
 
 // 11.1: trees of each form, quotas, uses and needs that look mixed; used as long as it may be.
 func TestTrees(t *testing.T) {
-	l, yes, no := numbers{}, 0, 0
+	l, yes, no := samples.Numbers{}, 0, 0
 	for i := range 600 {
-		row := parents()[i%len(parents())]
-		c := checked(t, l.quotas(tree(row...), 1+l.upTo(12)))
-		used := l.vecs(l.upTo(len(row)+3), 0, l.upTo(6))
+		row := samples.MayBe()[i%len(samples.MayBe())]
+		c := checked(t, quotas(&l, tree(row...), 1+l.UpTo(12)))
+		used := l.Vecs(l.UpTo(len(row)+3), 0, l.UpTo(6))
 		for n := -1; n <= len(row); n++ {
 			checkNominal(t, c, n, wantNominal(c, n))
 			for but := -1; but <= len(row); but++ {
 				checkKept(t, c, used, n, but, wantKept(c, used, n, but))
 			}
 			for range 6 {
-				if checkAll(t, c, used, n, l.vec(-1, l.upTo(14))) {
+				if checkAll(t, c, used, n, l.Vec(-1, l.UpTo(14))) {
 					yes++
 				} else if tenant(c, n) {
 					no++
@@ -576,16 +494,16 @@ func TestOrderOfSums(t *testing.T) {
 
 // 11.2: what tenants may use one behind the other, all cohorts on their paths have.
 func TestCohortsHave(t *testing.T) {
-	l, taken := numbers{}, 0
+	l, taken := samples.Numbers{}, 0
 	for i := range 400 {
-		row := parents()[i%len(parents())]
-		c := checked(t, l.quotas(tree(row...), 1+l.upTo(9)))
+		row := samples.MayBe()[i%len(samples.MayBe())]
+		c := checked(t, quotas(&l, tree(row...), 1+l.UpTo(9)))
 		used := make([]api.Vec, len(row))
 		if i%2 == 0 {
-			used = l.vecs(len(row), 0, 8) // more than there is, perhaps, as T1 does not let it be
+			used = l.Vecs(len(row), 0, 8) // more than there is, perhaps, as T1 does not let it be
 		}
 		for range 60 {
-			n, need := l.upTo(len(row)-1), l.vec(0, 3)
+			n, need := l.UpTo(len(row)-1), l.Vec(0, 3)
 			if !quota.May(c, used, n, need) {
 				continue
 			}
@@ -613,7 +531,7 @@ func TestCohortsHave(t *testing.T) {
 
 // 11.1: the greatest numbers that may be, of as many tenants as may be.
 func TestGreatest(t *testing.T) {
-	c := tree(parents()[7]...)
+	c := tree(samples.MayBe()[7]...)
 	for n := 1; n < api.MaxNodes; n++ {
 		c = setQuota(c, n, same(amount), same(amount), same(amount))
 	}
@@ -632,7 +550,7 @@ func TestGreatest(t *testing.T) {
 // R7: of the empty configuration there is nothing.
 func TestEmpty(t *testing.T) {
 	var c api.Config
-	for _, n := range around(c) {
+	for _, n := range samples.Around(c) {
 		for _, used := range [][]api.Vec{nil, {same(1), same(2)}} {
 			checkNominal(t, c, n, api.Vec{})
 			checkKept(t, c, used, n, n, api.Vec{})
@@ -661,23 +579,19 @@ func TestOtherFields(t *testing.T) {
 
 // R1: calls end, and none panics, of configurations that may not be, too.
 func TestMayNotBe(t *testing.T) {
-	rows := [][]int{
-		{0}, {1}, {least}, {top}, {-1, -1}, {-1, -1, 0, 1, 0, 1}, {-1, 1}, {1, 0}, {1, 2, 0}, {2, 0, 1}, {-1, 0, 5, 2, 3, 4}, {5, 5, 5, 5, 5, 5},
-		{top, 0, least, 2, 1 << 32, 1<<32 + 1, -1 << 32, 4, 5, 6}, {-1, 0, 0, 0, 0, 0, 0, 0, 0, 0, 0, 0, 0, 12, 13, 13, 13, 20, 16, 18},
-	}
-	for _, row := range rows {
+	for _, row := range samples.MayNotBe() {
 		for _, v := range []api.Vec{{}, same(top), same(least), {top, least, -1}, {-1, 0, most + 1}} {
 			c := tree(row...)
 			for n := range c.Nodes {
 				c = setQuota(c, n, v, api.Vec{v[1], v[2], v[0]}, api.Vec{v[2], v[0], v[1]})
 			}
-			for _, n := range around(c) {
+			for _, n := range samples.Around(c) {
 				for _, used := range [][]api.Vec{nil, {v}, slices.Repeat([]api.Vec{v}, 2*len(row))} {
 					quota.Nominal(c, n)
 					quota.May(c, used, n, v)
 					quota.Borrows(c, used, n)
 					quota.Within(c, used, n, v)
-					for _, but := range around(c) {
+					for _, but := range samples.Around(c) {
 						quota.Kept(c, used, n, but)
 					}
 				}
