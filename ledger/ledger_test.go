@@ -18,7 +18,7 @@ const (
 	top    = samples.Top
 )
 
-var same, only, tree, tenant, ahead, cut = samples.Same, samples.Only, samples.Tree, samples.Tenant, samples.Ahead, samples.Cut
+var same, only, tree, tenant, ahead, cut, runs = samples.Same, samples.Only, samples.Tree, samples.Tenant, samples.Ahead, samples.Cut, samples.Runs
 
 // trees are configurations that chapter 9's Check takes.
 func trees(t *testing.T) []api.Config {
@@ -178,11 +178,6 @@ func checkVecs(t *testing.T, what string, got []api.Vec, want ...api.Vec) {
 	if !slices.Equal(got, want) {
 		t.Errorf("%s: %d, want %d", what, got, want)
 	}
-}
-
-// runs is a gang of that tenant that runs.
-func runs(t, pods int, need api.Vec) api.Running {
-	return api.Running{Gang: api.Gang{Id: 1, Tenant: t, Pods: pods, Need: need, Run: 1}}
 }
 
 // 12.1: the chapter's own example, in each resource.

@@ -1,4 +1,4 @@
-// Package samples is for the tests alone: amounts, trees, numbers that several layers are tested with, and what the document says of them, written anew.
+// Package samples is for the tests alone: amounts, trees, gangs, numbers that several layers are tested with, and what the document says of them, written anew.
 package samples
 
 import (
@@ -79,6 +79,11 @@ func Around(c api.Config) []int {
 		l = append(l, n)
 	}
 	return l
+}
+
+// Runs is a gang of that tenant that runs.
+func Runs(t, pods int, need api.Vec) api.Running {
+	return api.Running{Gang: api.Gang{Id: 1, Tenant: t, Pods: pods, Need: need, Run: 1}}
 }
 
 // Numbers is a row of numbers that look mixed, the same ones each time.
