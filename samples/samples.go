@@ -28,6 +28,16 @@ func Only(r, n int) api.Vec {
 // Cut is n, at least -2^40, at most 2^40.
 func Cut(n int) int { return min(max(n, -Most), Most) }
 
+// Fixes are the edges of a Fix, and some between them.
+func Fixes() []api.Fix {
+	const one, most = api.One, api.MaxFix
+	l := []api.Fix{0, 1, 2, 3, one - 1, one, one + 1, 3*one + 7, most/2 - 1, most / 2, most/2 + 1, most - one, most - 1, most}
+	for shift := 3; shift < 64; shift += 6 {
+		l = append(l, 1<<shift, 1<<shift+1)
+	}
+	return l
+}
+
 // Tree is a configuration with those Parents, whose nodes have no quotas.
 func Tree(parents ...int) api.Config {
 	c := api.Config{Hosts: []api.Host{{Cap: Same(1)}}, Half: 10}

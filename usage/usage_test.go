@@ -42,15 +42,6 @@ func checked(t *testing.T, c api.Config) api.Config {
 	return c
 }
 
-// fixes are the edges of a Fix, and some between them.
-func fixes() []api.Fix {
-	l := []api.Fix{0, 1, 2, 3, one - 1, one, one + 1, 3*one + 7, maxFix/2 - 1, maxFix / 2, maxFix/2 + 1, maxFix - one, maxFix - 1, maxFix}
-	for shift := 3; shift < 64; shift += 6 {
-		l = append(l, 1<<shift, 1<<shift+1)
-	}
-	return l
-}
-
 // ticks are numbers below 0, at 0, at whole halves of 10, at 2^32, at the ends of int.
 func ticks() []int {
 	return []int{
@@ -194,7 +185,7 @@ func TestTickSizes(t *testing.T) {
 
 // 13.1: a list of all edges, and the same shares in another order, at all ticks and half-lives.
 func TestTickIsExact(t *testing.T) {
-	h := fixes()
+	h := samples.Fixes()
 	for turn := range h {
 		shares := append(slices.Clone(h[turn:]), h[:turn]...)
 		for _, n := range ticks() {
@@ -211,7 +202,7 @@ func TestTickIsExact(t *testing.T) {
 
 // 13.2: nothing is above what was there and n times the share.
 func TestNothingIsAbove(t *testing.T) {
-	h := fixes()
+	h := samples.Fixes()
 	for _, n := range ticks() {
 		for _, half := range halves() {
 			for _, share := range h {
@@ -239,7 +230,7 @@ func TestForgetting(t *testing.T) {
 			checkFixes(t, "behind a half-life more", h, want...)
 		}
 	}
-	h := fixes()
+	h := samples.Fixes()
 	slices.Sort(h)
 	for _, n := range ticks() {
 		for _, half := range halves() {
